@@ -1,0 +1,1 @@
+"""lanescounted: lanes counted anew while letters are under way."""
