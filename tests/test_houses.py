@@ -4,7 +4,7 @@ import itertools
 import unittest
 
 from refusals import Refusals, error_of
-from things import no_integers, nested, part_at, paths_of, replaced, strange
+from things import nested, no_integers, part_at, paths_of, replaced, spoiled, strange
 
 from lanescounted.errors import BadCase
 from lanescounted.houses import house_of, is_case, is_house, is_plan, is_scheme
@@ -25,28 +25,6 @@ LONG_HOUSE = (
 
 GOOD_CASES = [CASE, LONG_CASE]
 GOOD_HOUSES = [HOUSE, LONG_HOUSE, (SCHEME, ("show",), (1, 1), ((0, 0),), (1,), 1)]
-
-
-def bad_parts(part):
-    """Return objects that may not stand in the place of a part, whatever else is there."""
-    things = [thing for thing in strange() if not isinstance(thing, int)] + [10 ** 60, -10 ** 60, nested(90)]
-    if isinstance(part, bool):
-        return things + [0, 1, -1, int(part), str(part), (part,), [part]]
-    if isinstance(part, int):
-        return no_integers() + [-1, 5, 10 ** 60, 10 ** 5000, str(part), (part,), [part], bool(part)]
-    if isinstance(part, str):
-        things += ["asks", "quiet", "paced", part.upper(), part + " ", " " + part, part[:-1], part.encode()]
-        return things + [True, False, 0, 1, (part,), [part], list(part), tuple(part)]
-    things += [True, False, 0, 1, 2, list(part), dict(enumerate(part)), (part,), [part]]
-    return things + [part + (None,), (None,) + part]
-
-
-def spoiled(good):
-    """Return the good object with each part, one at a time, exchanged for each bad one."""
-    things = []
-    for path in paths_of(good):
-        things += [replaced(good, path, thing) for thing in bad_parts(part_at(good, path))]
-    return things
 
 
 def cut(good, paths):
