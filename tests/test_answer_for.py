@@ -7,11 +7,11 @@ from cases import case_of
 from model import random_plan, random_run, random_scheme
 from refusals import Refusals, error_of
 from running import built
-from things import ALL_QUESTIONS, bad_houses, bad_questions, steps_of
+from things import ALL_QUESTIONS, bad_houses, bad_questions
 
 from lanescounted.answers import answer_for, answer_holds, answer_to
 from lanescounted.errors import BadHouse, BadQuestion
-from lanescounted.questions import embed, project, run_shows
+from lanescounted.questions import embed, run_shows
 from lanescounted.runs import state_after
 
 # The key 0 keeps its lane, the keys 1 and 2 change it.
@@ -122,11 +122,10 @@ class AnswerFor(unittest.TestCase):
         first[1].clear()
         self.assertEqual(answer_for(HOUSE, "order"), kept)
 
-    def test_a_run_of_the_example(self):
-        case = case_of("show open")
-        key, steps = answer_for(case[:3] + ((case[3],), (2,), 2), "order")
-        self.assertEqual(project(case[:3] + ((case[3],), (2,), 2), steps, 0, 0, 1)[-1], steps_of("take 1")[0])
-        self.assertEqual(key, 0)
+    def test_the_house_of_a_case(self):
+        key, steps = answer_for(built("show open"), "order")
+        self.assertEqual((key, steps[-1]), (0, ("take", 1)))
+        self.assertIs(answer_holds(case_of("show open"), "order", ("run", steps)), True)
 
 
 class AnswerForArguments(Refusals, unittest.TestCase):

@@ -163,6 +163,12 @@ class Again(Running, unittest.TestCase):
         text = "learn 0; learn 1; send 0 1; send 0 1; send 1 0; word; word; arrive 1 0; arrive 1 1; arrive 0 0"
         self.leaves(house, text, back=((1, 0, 0, 0), (0, 0, 1, 0), (0, 0, 1, 1)))
 
+    def test_back_ascends_whatever_comes_back_first(self):
+        house = built("show tell show close", (1, 2, 3), ((0, 1, 2),), paced=False)
+        text = "learn 0; send 0 0; word; word; hear 0; send 0 0; word; word; arrive 0 1; "
+        self.leaves(house, text, way=((0, 0, 0, 0),), back=((0, 1, 0, 1),))
+        self.leaves(house, text + "arrive 0 0", way=(), back=((0, 0, 0, 0), (0, 1, 0, 1)))
+
     def test_it_can_be_refused_once_more(self):
         house = built("show close tell show close tell", (1, 2, 3), ((0, 1, 2),))
         text = "learn 0; send 0 0; word; word; word; arrive 0 0; hear 0; again 0 0; word; word; arrive 0 0; "

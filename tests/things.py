@@ -32,12 +32,20 @@ def nested(levels):
     return thing
 
 
+def doubled(levels):
+    """Return tuples within tuples of which nobody could visit all, for each has the next one twice."""
+    thing = ()
+    for _ in range(levels):
+        thing = (thing, thing)
+    return thing
+
+
 def strange():
     """Return objects that stand for nothing in the document, wherever they are put."""
     return [
         None, "", "x", "0", "1", "2", "True", "rest ", "REST", "show ", "Show", "shows", b"show", b"rest", b"",
         [], [1], [1, 2], ["show"], {}, {1: 2}, {"show": 1}, set(), frozenset([1]), (), (None,), ((),), ([],), ({},),
-        nested(100), -1, -10 ** 60, 10 ** 60, 10 ** 5000, object(), Hostile(), (Hostile(),), int, len, range(2),
+        nested(100), doubled(90), -1, -10 ** 60, 10 ** 60, 10 ** 5000, object(), Hostile(), (Hostile(),), int, len, range(2),
         ValueError("1"),
     ]
 
