@@ -20,9 +20,9 @@ def answer_to(case, question):
     """Return a shortest run of a case that shows a question, or all that its runs can come to [19]."""
     frame = Frame(house_of(case))
     check_question(question, QUESTIONS)
-    search = search_from(frame, first_state(frame), question)
-    if search.proof is not None:
-        return ("run", search.proof)
+    search = search_from(frame, first_state(frame), (question,))
+    if question in search.proofs:
+        return ("run", search.proofs[question])
     if question in STEP_QUESTIONS:
         return ("never", sorted(search.states))
     ranks = ranks_in(search, frame, question)
@@ -98,6 +98,14 @@ def answer_for(house, question):
     return None
 
 
+def questions_shown(case):
+    """Return the tuple of the questions, in their order, that some run of a case shows [22]."""
+    frame = Frame(house_of(case))
+    search = search_from(frame, first_state(frame), QUESTIONS)
+    found = [question for question in STATE_QUESTIONS if None in ranks_in(search, frame, question)]
+    return tuple([question for question in QUESTIONS if question in search.proofs or question in found])
+
+
 def is_proof(frame, question, steps):
     """Tell whether a list is a run that shows the question."""
     try:
@@ -106,14 +114,14 @@ def is_proof(frame, question, steps):
         states, _ = follow(frame, steps)
     except BadStep:
         return False
-    search = search_from(frame, states[-1], question)
+    search = search_from(frame, states[-1], STATE_QUESTIONS)
     return not any([is_well(frame, question, state) for state in search.states])
 
 
 def are_states(frame, listed):
     """Tell whether plain objects are states that runs have, the first state among them."""
     start = first_state(frame)
-    numbers = search_from(frame, start, None).numbers
+    numbers = search_from(frame, start, STATE_QUESTIONS).numbers
     return start in listed and all([state in numbers for state in listed])
 
 

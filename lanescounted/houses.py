@@ -1,7 +1,7 @@
 """Houses and cases: what is one, and the house of a case."""
 
 from lanescounted.checks import is_row, is_whole, is_word
-from lanescounted.errors import BadCase
+from lanescounted.errors import BadCase, BadScheme
 from lanescounted.tables import is_counts, is_course
 
 REFUSALS = ("back", "lost")
@@ -36,16 +36,20 @@ def is_case(thing):
 
 def house_of(case):
     """Return the house of a case [7]."""
-    if not is_case(case):
-        raise BadCase("a case is a tuple of a scheme, a plan, its counts and a course of these")
+    check_case(case)
     scheme, plan, counts, course = case
     return (scheme, plan, counts, (course,), (LETTERS_OF_A_CASE,), SENDERS_OF_A_CASE)
 
 
 def is_frame(scheme, plan, counts):
     """Tell whether three objects are a scheme, a plan and counts that fit the plan [7]."""
+    return is_scheme(scheme) and is_plan(plan) and are_fitting(counts, plan)
+
+
+def are_fitting(counts, plan):
+    """Tell whether an object is counts that fit a plan that is known to be good [7]."""
     # An edition stands ahead of all shows, and each show brings a further one.
-    return is_scheme(scheme) and is_plan(plan) and is_counts(counts) and len(counts) == plan.count("show") + 1
+    return is_counts(counts) and len(counts) == plan.count("show") + 1
 
 
 def is_scheme(thing):
@@ -63,6 +67,24 @@ def is_plan(thing):
     if not is_row(thing, 1, MOST_WORDS):
         return False
     return all([is_word(word, WORDS) for word in thing]) and 1 <= thing.count("show") <= MOST_SHOWS
+
+
+def check_case(case):
+    """Raise BadCase for an object that is no case."""
+    if not is_case(case):
+        raise BadCase("a case is a tuple of a scheme, a plan, its counts and a course of these")
+
+
+def check_plan(plan):
+    """Raise BadCase for an object that is no plan."""
+    if not is_plan(plan):
+        raise BadCase("a plan is a tuple of one to fifteen words, one or two of them show")
+
+
+def check_scheme(scheme):
+    """Raise BadScheme for an object that is no scheme."""
+    if not is_scheme(scheme):
+        raise BadScheme("a scheme is a tuple of asks, paced, refused, notes and steady")
 
 
 def are_keys(courses, letters, counts):

@@ -101,10 +101,15 @@ def take_steps(frame, moment, lanes, readers):
 
 def word_steps(frame, moment, state):
     """Return the step that does the next word of the plan, if that can be done [11]."""
-    place, held, way, _, lanes, _, _, _, _ = state
-    if place == len(frame.plan):
-        return []
-    word = frame.plan[place]
+    place, *_ = state
+    if place < len(frame.plan) and can_do(moment, state, frame.plan[place]):
+        return [("word",)]
+    return []
+
+
+def can_do(moment, state, word):
+    """Tell whether a word of a plan can be done in the state, behind the words that have set the moment [11]."""
+    _, held, way, _, lanes, _, _, _, _ = state
     editions = []
     if word == "agree":
         editions = [edition for edition in held if edition >= 0]
@@ -112,4 +117,4 @@ def word_steps(frame, moment, state):
         editions = [edition for _, edition, _, _ in way]
     elif word == "drain":
         editions = [edition for letters in lanes for _, _, edition in letters]
-    return [("word",)] if min(editions, default=moment.shown) >= moment.shown else []
+    return min(editions, default=moment.shown) >= moment.shown

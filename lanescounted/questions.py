@@ -66,6 +66,11 @@ def check_question(question, questions):
 def shows_along(frame, question, run):
     """Tell whether a run shows one of the first four questions; BadStep if it is no run."""
     states, happenings = follow(frame, run)
+    return some_shows(question, states, happenings)
+
+
+def some_shows(question, states, happenings):
+    """Tell whether one of some steps, in these states, with these events, shows one of the first four questions."""
     return any([step_shows(question, state, events) for state, events in zip(states, happenings)])
 
 

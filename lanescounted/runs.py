@@ -31,10 +31,18 @@ def follow(frame, run):
     """Return the states of a run, the first one included, and for each step the list of its events [15]."""
     if not isinstance(run, list):
         raise BadStep(0)
-    states = [first_state(frame)]
+    states, happenings = walk(frame, first_state(frame), run[:MOST_STEPS])
+    if len(run) > MOST_STEPS:
+        raise BadStep(MOST_STEPS)
+    return states, happenings
+
+
+def walk(frame, start, steps):
+    """Return the states of any number of steps, the start included, and for each step the list of its events."""
+    states = [start]
     happenings = []
-    for place, step in enumerate(run):
-        if place >= MOST_STEPS or not can_take(frame, states[-1], step):
+    for place, step in enumerate(steps):
+        if not can_take(frame, states[-1], step):
             raise BadStep(place)
         state, events = after_step(frame, states[-1], step)
         states.append(state)

@@ -15,8 +15,8 @@ class Search:
         self.origins = [None]
         # For each number the numbers of the states that its steps lead to.
         self.edges = []
-        # The least run that shows the question.
-        self.proof = None
+        # For each question that a step was found to show a least run that shows it.
+        self.proofs = {}
 
     def meet(self, state, number, step):
         """Return the number of a state that a step leads to from the state with a number."""
@@ -37,21 +37,22 @@ class Search:
         return path[::-1]
 
 
-def search_from(frame, start, question):
-    """Return the search from a start, which ends early, with a proof, if a step shows the question.
+def search_from(frame, start, questions):
+    """Return the search from a start, which ends early if it has a proof of each of the questions.
 
-    It goes on to its end by a question that no step shows, and by None.
+    No step shows "stuck" or "left", so with one of these it goes on to its end.
     """
     search = Search(start)
-    while search.proof is None and len(search.edges) < len(search.states):
+    while len(search.proofs) < len(questions) and len(search.edges) < len(search.states):
         number = len(search.edges)
         state = search.states[number]
         edges = []
         for step in steps_in(frame, state):
             behind, events = after_step(frame, state, step)
-            if search.proof is None and step_shows(question, state, events):
-                # States are met in the order of their least runs, so no shorter run shows it.
-                search.proof = [*search.path_to(number), step]
+            for question in questions:
+                if question not in search.proofs and step_shows(question, state, events):
+                    # States are met in the order of their least runs, so no shorter run shows it.
+                    search.proofs[question] = [*search.path_to(number), step]
             edges.append(search.meet(behind, number, step))
         search.edges.append(edges)
     return search
@@ -59,12 +60,20 @@ def search_from(frame, start, question):
 
 def ranks_in(search, frame, question):
     """Return for each number of a state the fewest steps to one that is well by the question, None if none is [19]."""
+    well = [number for number, state in enumerate(search.states) if is_well(frame, question, state)]
+    return ways_to(search, well)
+
+
+def ways_to(search, targets):
+    """Return for each number of a state the fewest steps to one of some targets, None if no way leads there."""
     ahead = [[] for _ in search.states]
     for number, edges in enumerate(search.edges):
         for other in edges:
             ahead[other].append(number)
-    ranks = [0 if is_well(frame, question, state) else None for state in search.states]
-    level = [number for number, rank in enumerate(ranks) if rank == 0]
+    ranks = [None for _ in search.states]
+    for number in targets:
+        ranks[number] = 0
+    level = targets
     while level:
         following = []
         for number in level:

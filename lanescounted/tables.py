@@ -53,11 +53,7 @@ def all_courses(counts):
 def small_courses(counts):
     """Return the list, ascending, of the courses that are not alike to a lesser one [6]."""
     check_counts(counts)
-    renamings = renamings_of(counts)
-    return [
-        course for course in courses_of(counts)
-        if course == min([renamed(course, lanes) for lanes in renamings])
-    ]
+    return [course for course in courses_of(counts) if course == least_alike(course, counts)]
 
 
 def course_shares(kind, counts, size):
@@ -176,6 +172,11 @@ def renamings_of(counts):
 def renamed(course, lanes):
     """Return the course with each of its lanes renamed."""
     return tuple([lanes[lane] for lane in course])
+
+
+def least_alike(course, counts):
+    """Return the least of the courses that are alike to this one, for counts that are known to be good [6]."""
+    return min([renamed(course, lanes) for lanes in renamings_of(counts)])
 
 
 def shares_by_rest(counts, size):

@@ -121,6 +121,17 @@ def bad_cases(case):
     return strange() + no_integers() + [case[:3] + ((case[3],), (2,), 2)] + spoiled(case)[::5]
 
 
+def bad_schemes(scheme):
+    """Return what is no scheme, much of it near this one."""
+    return strange() + no_integers() + [0, 1] + spoiled(scheme)
+
+
+def bad_plans(plan):
+    """Return what is no plan, much of it near this one."""
+    others = [(), ("open",), ("show",) * 3, plan + ("tell",) * 15, ("learn",), ("word",), " ".join(plan)]
+    return strange() + no_integers() + [0, 1] + others + spoiled(plan)
+
+
 def bad_questions(questions):
     """Return what is none of these questions."""
     others = [question for question in ALL_QUESTIONS if question not in questions]
