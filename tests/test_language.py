@@ -5,6 +5,9 @@ import builtins
 import pathlib
 import unittest
 
+from test_interface import FUNCTIONS
+
+INTERFACE = [name for functions in FUNCTIONS.values() for name in functions]
 PACKAGE = pathlib.Path(__file__).resolve().parent.parent / "lanescounted"
 FILES = sorted(path for path in PACKAGE.rglob("*") if path.is_file() and path.suffix != ".pyc")
 LIBRARY = {
@@ -119,6 +122,73 @@ class Language(unittest.TestCase):
                 if isinstance(node.func, ast.Name) and node.func.id in ("any", "all", "min", "max", "sum", "sorted"):
                     kinds = [isinstance(thing, ast.GeneratorExp) for thing in node.args]
                     self.assertNotIn(True, kinds, (path, node.lineno))
+
+
+class Names(unittest.TestCase):
+    def test_no_local_name_is_a_class_or_an_import_of_its_file(self):
+        for path, _, tree in trees():
+            taken = [node.name for node in nodes(tree, ast.ClassDef)]
+            taken += [alias.name for node in nodes(tree, ast.ImportFrom) for alias in node.names]
+            for function in nodes(tree, ast.FunctionDef):
+                names = [node.arg for node in nodes(function, ast.arg)]
+                names += [node.id for node in nodes(function, ast.Name) if not isinstance(node.ctx, ast.Load)]
+                self.assertEqual(set(names) & set(taken), set(), (path, function.name))
+
+    def test_no_name_is_a_method_and_an_attribute(self):
+        methods, attributes = [], []
+        for _, _, tree in trees():
+            for found in nodes(tree, ast.ClassDef):
+                methods += [node.name for node in found.body if isinstance(node, ast.FunctionDef)]
+            attributes += [node.attr for node in nodes(tree, ast.Attribute) if not isinstance(node.ctx, ast.Load)]
+        self.assertEqual(set(methods) & set(attributes), set())
+        for name in ("keys", "items", "values", "update", "append", "args", "encode", "decode", "format"):
+            self.assertNotIn(name, methods + attributes)
+
+    def test_each_attribute_that_is_read_is_assigned_or_a_method(self):
+        known = dir("") + dir([]) + dir({}) + dir(())
+        for _, _, tree in trees():
+            known += [node.attr for node in nodes(tree, ast.Attribute) if not isinstance(node.ctx, ast.Load)]
+            known += [node.name for node in nodes(tree, ast.FunctionDef)]
+        for path, _, tree in trees():
+            for node in nodes(tree, ast.Attribute):
+                self.assertIn(node.attr, known, (path, node.lineno))
+
+    def test_a_class_that_is_indexed_says_that_it_is_not_iterated(self):
+        found = 0
+        for _, _, tree in trees():
+            for node in nodes(tree, ast.ClassDef):
+                bodies = {part.name: part.body for part in node.body if isinstance(part, ast.FunctionDef)}
+                if "__getitem__" in bodies:
+                    found += 1
+                    self.assertEqual([type(part) for part in bodies["__iter__"]], [ast.Raise])
+        self.assertEqual(found, 1)
+
+    def test_no_two_files_import_from_each_other(self):
+        imports = {
+            path.stem: {node.module.split(".")[1] for node in nodes(tree, ast.ImportFrom)
+                        if node.module.startswith("lanescounted.")}
+            for path, _, tree in trees()
+        }
+        left = dict(imports)
+        while left:
+            free = [name for name in left if not imports[name] & set(left)]
+            self.assertNotEqual(free, [], left)
+            for name in free:
+                del left[name]
+
+    def test_each_name_that_is_imported_or_defined_is_used(self):
+        used = {
+            name for _, _, tree in trees() for node in nodes(tree, ast.Name, ast.Attribute)
+            for name in [node.id if isinstance(node, ast.Name) else node.attr]
+        }
+        for path, _, tree in trees():
+            own = {node.id for node in nodes(tree, ast.Name)}
+            for node in nodes(tree, ast.ImportFrom):
+                for alias in node.names:
+                    self.assertIn(alias.name, own, path)
+            for node in tree.body:
+                if isinstance(node, ast.FunctionDef) and node.name not in INTERFACE:
+                    self.assertIn(node.name, used, path)
 
 
 if __name__ == "__main__":
